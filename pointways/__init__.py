@@ -1,0 +1,1 @@
+"""Pointways: ties without direction, pointed so that all reach all."""
