@@ -104,8 +104,8 @@ class Refused(unittest.TestCase):
 
     def test_names_that_are_none(self):
         self.refuse(["A", "a B", "a B; a-B", "a1", "1", "a 1; a-1", "abcde", "a abcde; a-abcde", "a,b", "a b, a-b",
-                     "a.", "a_", "(a)", "'a'", "\"a\"", "a b: a-b", "a/b", "a\\nb", "~", "a b; A-b", "a b; a-B", "a b; a-1",
-                     "['a']", "a|b", "a+b", "{a}"])
+                     "a.", "a_", "(a)", "'a'", "\"a\"", "a b: a-b", "a/b", "a\\nb", "~", "a b; A-b", "a b; a-B",
+                     "a b; a-1", "['a']", "a|b", "a+b", "{a}"])
 
 
 if __name__ == "__main__":
