@@ -75,6 +75,18 @@ class Web:
         return len(self.pairs)
 
 
+def is_number(web, thing):
+    """Whether it is the number of a tie."""
+    return is_whole(thing) and 0 <= thing < web.many()
+
+
+def are_numbers(web, thing):
+    """Whether it is a list of numbers of ties, each once."""
+    if not is_list(thing) or not all([is_number(web, one) for one in thing]):
+        return False
+    return len(set(thing)) == len(thing)
+
+
 def renamed(web, names):
     """The web with other names in the places of its points."""
     points = web.points()
@@ -88,9 +100,7 @@ def renamed(web, names):
 
 def reordered(web, order):
     """The web with its ties in the order in which their numbers are told."""
-    if not is_list(order) or not all([is_whole(number) for number in order]):
-        raise NoNumbers("an order is a list of whole numbers")
-    if sorted(order) != list(range(web.many())):
-        raise NoNumbers("an order tells the number of each tie once")
+    if not are_numbers(web, order) or len(order) != web.many():
+        raise NoNumbers("an order is a list of the numbers of all ties, each once")
     ties = web.ties()
     return Web(web.points(), [ties[number] for number in order])

@@ -1,6 +1,7 @@
 """The form of the package's files: the rules of the language that are quickly looked at."""
 
 import ast
+import builtins
 import pathlib
 import re
 import unittest
@@ -17,6 +18,10 @@ NAMES = ("abs all any bool bytes dict divmod enumerate frozenset int isinstance 
          "StopIteration").split()
 LEFT_OUT = (ast.With, ast.Match, ast.Global, ast.Nonlocal, ast.Yield, ast.YieldFrom, ast.AsyncFunctionDef,
             ast.GeneratorExp, ast.NamedExpr, ast.Div, ast.Import)
+METHODS = ("append clear copy count endswith extend find get index insert isalnum isalpha isdigit islower isspace "
+           "isupper items join keys ljust lower lstrip partition pop remove replace reverse rfind rjust rpartition "
+           "rsplit rstrip setdefault split splitlines startswith strip update upper values zfill bit_length "
+           "add discard sort __init__").split()
 
 
 def bound(tree):
@@ -89,6 +94,52 @@ class Form(unittest.TestCase):
             self.assertEqual([one for one in sorted(names) if one.startswith("_") and one != "__init__"], [], name)
             asked = {node.id for node in ast.walk(tree) if isinstance(node, ast.Name)}
             self.assertEqual(sorted(asked - names - set(NAMES)), [], name)
+
+    def test_nothing_is_called_like_python_s_own_or_like_what_is_drawn_in(self):
+        for name, _, tree in each():
+            drawn = [alias.name for row in tree.body if isinstance(row, ast.ImportFrom) for alias in row.names]
+            top = drawn + [row.name for row in tree.body if isinstance(row, (ast.FunctionDef, ast.ClassDef))]
+            self.assertEqual(sorted(top), sorted(set(top)), name)
+            self.assertEqual(sorted(set(top) & set(dir(builtins))), [], name)
+            for node in ast.walk(tree):
+                if isinstance(node, (ast.FunctionDef, ast.Lambda)):
+                    inner = bound(node) - {getattr(node, "name", "")}
+                    self.assertEqual(sorted(inner & (set(top) | set(dir(builtins)))), [], (name, node.lineno))
+
+    def test_names_are_drawn_from_the_file_that_defines_them_and_used(self):
+        defined = {name: {row.name for row in tree.body if isinstance(row, (ast.FunctionDef, ast.ClassDef))}
+                   for name, _, tree in each()}
+        for name, _, tree in each():
+            asked = {node.id for node in ast.walk(tree) if isinstance(node, ast.Name)}
+            for row in tree.body:
+                if isinstance(row, ast.ImportFrom):
+                    drawn = {alias.name for alias in row.names}
+                    self.assertEqual(sorted(drawn - defined[row.module.split(".")[1] + ".py"]), [], name)
+                    self.assertEqual(sorted(drawn - asked), [], name)
+
+    def test_no_two_files_draw_from_one_another(self):
+        draws = {name: [row.module.split(".")[1] + ".py" for row in tree.body if isinstance(row, ast.ImportFrom)]
+                 for name, _, tree in each()}
+        while draws:
+            free = [name for name in draws if not set(draws[name]) & set(draws)]
+            self.assertNotEqual(free, [], sorted(draws))
+            for name in free:
+                del draws[name]
+
+    def test_methods_and_comparisons(self):
+        trees = each()
+        own = {node.name for _, _, tree in trees for node in ast.walk(tree) if isinstance(node, ast.FunctionDef)}
+        for name, _, tree in trees:
+            for node in ast.walk(tree):
+                at = (name, getattr(node, "lineno", 0))
+                if isinstance(node, ast.Call) and isinstance(node.func, ast.Attribute):
+                    self.assertIn(node.func.attr, set(METHODS) | own, at)
+                if isinstance(node, (ast.For, ast.While)):
+                    self.assertEqual(node.orelse, [], at)
+                if isinstance(node, ast.Compare) and isinstance(node.ops[0], (ast.Is, ast.IsNot)):
+                    self.assertIsInstance(node.comparators[0], ast.Constant, at)
+                if isinstance(node, (ast.For, ast.comprehension)):
+                    self.assertNotIsInstance(node.iter, (ast.Set, ast.SetComp), at)
 
 
 if __name__ == "__main__":

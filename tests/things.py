@@ -1,6 +1,10 @@
-"""Things that several tests hand in."""
+"""Things that several tests hand in, and searches of the tests' own."""
 
 import copy
+import itertools
+import random
+
+from pointways.webs import Web
 
 
 class Anything:
@@ -46,6 +50,17 @@ def no_numbers():
             Like(0), Like(1), int]
 
 
+def no_pointings(web):
+    """Things that are no pointing of a web that has ties."""
+    many = web.many()
+    things = no_lists() + [[], (), [0] * (many - 1), [0] * (many + 1), (1,) * (many + 1), "0" * many, b"0" * many,
+                           {number: 0 for number in range(many)}, [[0] * many], Like([0] * many), range(many)]
+    for thing in no_numbers() + [2, -1, 10 ** 17]:
+        things += [put([0] * many, at, thing) for at in range(many)]
+        things.append((thing,) * many)
+    return things
+
+
 def nested(deep):
     """A list within a list, so many deep."""
     thing = ["a"]
@@ -86,3 +101,103 @@ def is_plain(thing):
     if isinstance(thing, dict):
         return all(is_plain(one) for pair in thing.items() for one in pair)
     return thing is None or isinstance(thing, (bool, int, str, bytes))
+
+
+def web_of(text):
+    """A web from its points and ties, each a word; a tie is two letters, so the points are letters."""
+    points, _, ties = text.partition(";")
+    return Web(points.split(), [tuple(tie) for tie in ties.split()])
+
+
+ONE = web_of("a")
+ROW = web_of("a b c d; ab cb cd")
+RING = web_of("a b c d; ab cb cd da")
+TWO_TIES = web_of("a b; ab ba")
+HUNG = web_of("a x b y c z; ab bc ac xy yz zx cx")
+SHARED = web_of("c a b d e; ab bc ca cd de ec")
+PARTED = web_of("a x b y; ab xy ba yx")
+FULL = web_of("a b c d; ab ac ad bc bd cd")
+NINE_RING = web_of("a b c d e f g h i; ab bc dc de ef gf gh ih ia")
+LARGE = web_of("a b c d e f g h i; ab bc dc de ef gf gh ih ia ac ca be eh hb ai ai gd fi ch gb")
+TREE_AND_RING = web_of("d a b c e; ab bc ca dc de")
+
+
+def sample_webs():
+    """Webs of several forms: joined and not, with barring ties and without."""
+    return [ONE, web_of("a b"), web_of("b a c"), web_of("a b; ba"), ROW, RING, TWO_TIES, HUNG, SHARED, PARTED, FULL,
+            NINE_RING, LARGE, TREE_AND_RING, web_of("a b c; ab"), web_of("a b c; ab ba ab bc"),
+            web_of("a b c d e; ac ca bd de eb")]
+
+
+def chance_webs(seed, many, points, ties):
+    """So many webs, the same at each call, of up to so many points and ties."""
+    chance = random.Random(seed)
+    webs = []
+    for _ in range(many):
+        names = list("abcdefghi"[:chance.randint(1, points)])
+        chance.shuffle(names)
+        pairs = list(itertools.permutations(names, 2))
+        webs.append(Web(names, [chance.choice(pairs) for _ in range(chance.randint(0, ties) if pairs else 0)]))
+    return webs
+
+
+def some_lots(web):
+    """All lots of a web, each in order."""
+    points = web.points()
+    return [list(lot) for many in range(1, len(points)) for lot in itertools.combinations(points, many)]
+
+
+def all_pointings(web):
+    """All pointings of a web, each a list."""
+    return [list(leads) for leads in itertools.product([0, 1], repeat=web.many())]
+
+
+def some_pointings(web):
+    """A few pointings of a web."""
+    many = web.many()
+    rows = [[0] * many, [1] * many, [at % 2 for at in range(many)], [at // 2 % 2 for at in range(many)],
+            [at * at // 3 % 2 for at in range(many)]]
+    return [row for at, row in enumerate(rows) if row not in rows[:at]]
+
+
+def arcs_of(web, pointing):
+    """Each tie as the pair of points from which and to which it leads."""
+    return [tie if lead == 0 else tie[::-1] for tie, lead in zip(web.ties(), pointing)]
+
+
+def distances(arcs, start):
+    """A dict from each point to which arcs lead to how many they are."""
+    far = {start: 0}
+    for many in range(1, 10):
+        wave = {goal for origin, goal in arcs if far.get(origin) == many - 1 and goal not in far}
+        far.update((point, many) for point in wave)
+    return far
+
+
+def all_reach_all(web, pointing):
+    """Whether each point reaches each, by the test's own search."""
+    arcs = arcs_of(web, pointing)
+    return all(set(distances(arcs, point)) == set(web.points()) for point in web.points())
+
+
+def own_clusters(web, left_out=None):
+    """The clusters, each a set, by joining sets tie by tie."""
+    sets = [{point} for point in web.points()]
+    for number, (first, second) in enumerate(web.ties()):
+        if number != left_out:
+            met = [one for one in sets if first in one or second in one]
+            sets = [one for one in sets if one not in met] + [set().union(*met)]
+    return sets
+
+
+def crossed_by(web, lot):
+    """The numbers of the ties that cross a lot."""
+    return [number for number, tie in enumerate(web.ties()) if sum(end in lot for end in tie) == 1]
+
+
+def refusal_of(deed, *handed):
+    """The refusal's class and what the deed tells, one of them None."""
+    try:
+        return (None, deed(*handed))
+    except ValueError as refusal:
+        return (type(refusal), None)
