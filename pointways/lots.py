@@ -17,6 +17,15 @@ def lot_of(web, points):
     return lot
 
 
+def all_lots(web):
+    """All lots of the web, each in order."""
+    parts = [[]]
+    for point in web.points():
+        parts = parts + [part + [point] for part in parts]
+    # The first part is none of the points, the last one is all of them.
+    return parts[1:-1]
+
+
 def crossing(web, lot):
     """The numbers of the ties that have just one end in the lot, rising."""
     inside = lot_of(web, lot)

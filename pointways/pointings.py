@@ -29,6 +29,11 @@ def arrows(web, pointing):
     return steps_along(web, dict(enumerate(pointing)))
 
 
+def steps_into(steps, lot):
+    """The steps that lead into the lot."""
+    return [step for step in steps if step[1] not in lot and step[2] in lot]
+
+
 def turned(web, pointing, numbers):
     """The pointing with the ties of these numbers the other way about."""
     sure_of_pointing(web, pointing)

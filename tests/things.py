@@ -61,6 +61,21 @@ def no_pointings(web):
     return things
 
 
+def no_fixed(web):
+    """Things that fix no ties of a web that has two or more."""
+    many = web.many()
+    things = [thing for thing in no_lists() if not isinstance(thing, dict)]
+    things += [[], (), [0], [0] * many, [(0, 1)], ((0, 0), (1, 1)), [[0, 1]], "01", "0", 0, {0}, Like({})]
+    for key in [many, many + 1, -1, -many, 10 ** 17, "", "0", "a", None, (), (0,), (0, 1), b"0", object(), len]:
+        things += [{key: 0}, {0: 0, key: 1}, {key: 1, 1: 1}]
+    # Beside a number these would be taken for it as keys, so they stand alone.
+    things += [{Like(0): 0}, {Like(1): 1}, {Anything(): 0}]
+    for lead in [2, -1, 10, 10 ** 17, True, False, None, "", "0", "a", b"0", [], [0], (0,), {}, {0: 0}, set(),
+                 object(), Anything(), Like(0), Like(1), len]:
+        things += [{0: lead}, {1: lead}, {0: 0, 1: lead}, {many - 1: lead}]
+    return things
+
+
 def nested(deep):
     """A list within a list, so many deep."""
     thing = ["a"]
