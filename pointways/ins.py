@@ -1,6 +1,6 @@
 """Ins: how many ties lead to each point, and into a lot."""
 
-from pointways.lots import lot_of
+from pointways.lots import all_lots, lot_of, within
 from pointways.pointings import arrows, steps_into
 
 
@@ -14,3 +14,25 @@ def entering(web, pointing, lot):
     """How many ties lead into the lot."""
     steps = arrows(web, pointing)
     return len(steps_into(steps, lot_of(web, lot)))
+
+
+def weighed_lots(web):
+    """All lots, each as (places, many): the places of its points, and how many ties are within it."""
+    points = web.points()
+    return [([points.index(point) for point in lot], len(within(web, lot))) for lot in all_lots(web)]
+
+
+def is_over_by(weighed, ins, k):
+    """Whether k ties, or more, lead into each of the weighed lots, which the ins alone tell."""
+    for places, many in weighed:
+        if sum([ins[place] for place in places]) - many < k:
+            return False
+    return True
+
+
+def gaps(web, pointing, ins):
+    """The points to which fewer ties lead than the ins want, and those to which more do."""
+    rows = list(zip(web.points(), ins_of(web, pointing), ins))
+    lacking = [point for point, many, wanted in rows if many < wanted]
+    spare = [point for point, many, wanted in rows if many > wanted]
+    return (lacking, spare)

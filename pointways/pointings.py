@@ -29,6 +29,11 @@ def arrows(web, pointing):
     return steps_along(web, dict(enumerate(pointing)))
 
 
+def unlike_steps(web, one, other):
+    """The steps of the one pointing along the ties that lead otherwise by the other."""
+    return [step for step in arrows(web, one) if one[step[0]] != other[step[0]]]
+
+
 def steps_into(steps, lot):
     """The steps that lead into the lot."""
     return [step for step in steps if step[1] not in lot and step[2] in lot]

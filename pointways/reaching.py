@@ -3,12 +3,12 @@
 from pointways.clusters import found_along, ways_along
 from pointways.errors import NoPoint
 from pointways.pointings import arrows
-from pointways.webs import is_name
+from pointways.webs import is_point
 
 
 def sure_of_point(web, thing):
     """Refuses what is no point of the web."""
-    if not is_name(thing) or thing not in web.points():
+    if not is_point(web, thing):
         raise NoPoint("that is no point of the web")
 
 

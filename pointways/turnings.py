@@ -1,9 +1,9 @@
 """Fewest ties to turn so that all reach all, and as many lots that show it."""
 
 from pointways.ears import sure_of_ears
-from pointways.errors import TooMuch
 from pointways.lots import all_lots, crossing
 from pointways.pointings import arrows, steps_into, sure_of_pointing
+from pointways.webs import sure_of_few_ties
 
 MOST_TIES_TAKEN = 12
 
@@ -49,8 +49,7 @@ def lots_apart(cuts, numbers):
 def fewest(web, pointing):
     """Fewest ties, turned in which all reach all, and as many shut lots of which no tie crosses two."""
     sure_of_pointing(web, pointing)
-    if web.many() > MOST_TIES_TAKEN:
-        raise TooMuch("the web has more than twelve ties")
+    sure_of_few_ties(web, MOST_TIES_TAKEN)
     sure_of_ears(web)
     cuts = shut_cuts(web, pointing)
     # Where no tie bars, fewest ties that are in all cuts do when they are turned, and as many lots are apart.

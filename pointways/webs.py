@@ -1,6 +1,6 @@
 """Webs: points, and ties between them that have no direction."""
 
-from pointways.errors import NoNumbers, NoWeb
+from pointways.errors import NoNumbers, NoWeb, TooMuch
 
 LETTERS = "abcdefghijklmnopqrstuvwxyz"
 MOST_LETTERS = 4
@@ -73,6 +73,17 @@ class Web:
     def many(self):
         """How many ties there are."""
         return len(self.pairs)
+
+
+def sure_of_few_ties(web, most):
+    """Refuses a web of more ties than so many."""
+    if web.many() > most:
+        raise TooMuch(f"the web has more than {most} ties")
+
+
+def is_point(web, thing):
+    """Whether it is a point of the web."""
+    return is_name(thing) and thing in web.points()
 
 
 def is_number(web, thing):

@@ -4,16 +4,21 @@ import copy
 import random
 import unittest
 
+from pointways.apart import ways_apart
 from pointways.beforehand import forced, pointed_with
 from pointways.clusters import bars, clusters
 from pointways.ears import ears, reads_ears
+from pointways.errors import Thin, TooMuch
 from pointways.ins import entering, ins_of
 from pointways.lots import within
+from pointways.meeting import all_ins, pointing_of
+from pointways.over import pointed_over, times_over
 from pointways.pointed import by_ears, pointed
 from pointways.pointings import is_pointing, pointing_text, read_pointing, turned
 from pointways.reaching import reached, shut_lot, way
+from pointways.rings import rings_between
 from pointways.turnings import fewest
-from pointways.webs import renamed, reordered
+from pointways.webs import Web, renamed, reordered
 from things import all_reach_all, chance_webs, refusal_of, sample_webs, told
 
 
@@ -27,43 +32,90 @@ def other_names(web, chance):
     return dict(zip(web.points(), names))
 
 
+class Otherwise:
+    """A web with other names, its ties in another order and some of them told the other way about."""
+
+    def __init__(self, web, chance):
+        self.order = chance.sample(range(web.many()), web.many())
+        self.about = [chance.randint(0, 1) for _ in self.order]
+        self.names = other_names(web, chance)
+        other = reordered(renamed(web, self.names), self.order)
+        self.web = Web(other.points(), [tie[::-1] if about else tie for tie, about in zip(other.ties(), self.about)])
+
+    def pointing(self, pointing):
+        """The same pointing, of this web."""
+        return [pointing[number] ^ about for number, about in zip(self.order, self.about)]
+
+    def fixed(self, fixed):
+        """The same ties fixed, of this web."""
+        return {at: fixed[number] ^ self.about[at] for at, number in enumerate(self.order) if number in fixed}
+
+
 class CalledOtherwise(unittest.TestCase):
     """Points called otherwise, and ties in another order, leave what is counted and refused as it is."""
 
     def several(self):
-        """Each web with a pointing and what is fixed, and the same called otherwise and in another order."""
+        """Each web, the same otherwise, and a source of chance."""
         chance = random.Random(18)
         for web in webs():
-            many = web.many()
-            order = chance.sample(range(many), many)
-            other = reordered(renamed(web, other_names(web, chance)), order)
-            pointing = [chance.randint(0, 1) for _ in range(many)]
-            fixed = {number: pointing[number] for number in chance.sample(range(many), many // 3)}
-            yield (web, pointing, fixed, other, [pointing[number] for number in order],
-                   {order.index(number): lead for number, lead in fixed.items()})
+            yield web, Otherwise(web, chance), chance
 
-    def test_how_many(self):
-        for web, pointing, fixed, other, other_pointing, other_fixed in self.several():
-            self.assertEqual([len(one) for one in clusters(web)], [len(one) for one in clusters(other)])
-            self.assertEqual(len(bars(web)), len(bars(other)))
-            self.assertEqual(ins_of(web, pointing), ins_of(other, other_pointing))
-            refused, one = refusal_of(fewest, web, pointing)
-            other_refused, two = refusal_of(fewest, other, other_pointing)
-            self.assertEqual(refused, other_refused)
-            if refused is None:
-                self.assertEqual([len(row) for row in one], [len(row) for row in two])
-            refused, one = refusal_of(forced, web, fixed)
-            other_refused, two = refusal_of(forced, other, other_fixed)
-            self.assertEqual(refused, other_refused)
-            if refused is None:
-                self.assertEqual(len(one), len(two))
+    def drawn(self, web, chance):
+        """A pointing by chance."""
+        return [chance.randint(0, 1) for _ in range(web.many())]
 
-    def test_whether_anything_is_refused(self):
-        for web, pointing, fixed, other, other_pointing, other_fixed in self.several():
-            for deed in [ears, pointed]:
-                self.assertEqual(refusal_of(deed, web)[0], refusal_of(deed, other)[0])
-            self.assertEqual(refusal_of(pointed_with, web, fixed)[0], refusal_of(pointed_with, other, other_fixed)[0])
-            self.assertEqual(shut_lot(web, pointing) is None, shut_lot(other, other_pointing) is None)
+    def alike(self, measure, deed, web_and_handed, other_and_handed):
+        """Both are refused alike, or what both tell has the same measure."""
+        refused, one = refusal_of(deed, *web_and_handed)
+        other_refused, other = refusal_of(deed, *other_and_handed)
+        self.assertEqual(refused, other_refused)
+        if refused is None:
+            self.assertEqual(measure(one), measure(other))
+
+    def test_of_the_web_alone(self):
+        for web, same, _ in self.several():
+            self.alike(lambda told: [len(one) for one in told], clusters, [web], [same.web])
+            for deed in [bars, ears, pointed, all_ins]:
+                self.alike(len, deed, [web], [same.web])
+            for k in [0, 1, 2, 3, 9]:
+                self.alike(len, pointed_over, [web, k], [same.web, k])
+
+    def test_of_a_pointing(self):
+        for web, same, chance in self.several():
+            pointing = self.drawn(web, chance)
+            both = [web, pointing], [same.web, same.pointing(pointing)]
+            self.alike(list, ins_of, *both)
+            self.alike(lambda told: [len(row) for row in told], fewest, *both)
+            self.alike(lambda told: told is None, shut_lot, *both)
+            self.alike(lambda told: told and told[0], times_over, *both)
+
+    def test_of_what_is_fixed(self):
+        for web, same, chance in self.several():
+            pointing = self.drawn(web, chance)
+            fixed = {number: pointing[number] for number in chance.sample(range(web.many()), web.many() // 3)}
+            for deed in [pointed_with, forced]:
+                self.alike(len, deed, [web, fixed], [same.web, same.fixed(fixed)])
+
+    def test_of_points(self):
+        for web, same, chance in self.several():
+            pointing = self.drawn(web, chance)
+            a, b = chance.choice(web.points()), chance.choice(web.points())
+            both = [web, pointing, a, b], [same.web, same.pointing(pointing), same.names[a], same.names[b]]
+            self.alike(lambda told: told and len(told), way, *both)
+            self.alike(lambda told: len(told[0]), ways_apart, *both)
+
+    def test_of_ins(self):
+        for web, same, chance in self.several():
+            ins = ins_of(web, self.drawn(web, chance))
+            chance.shuffle(ins)
+            self.alike(len, pointing_of, [web, ins], [same.web, ins])
+
+    def test_of_two_pointings(self):
+        for web, same, chance in self.several():
+            one, other = pointing_of(web, ins_of(web, self.drawn(web, chance))), self.drawn(web, chance)
+            for two in [other, pointing_of(web, ins_of(web, one)), [1 - lead for lead in one]]:
+                self.alike(lambda told: len(sum(told, [])), rings_between, [web, one, two],
+                           [same.web, same.pointing(one), same.pointing(two)])
 
 
 class Together(unittest.TestCase):
@@ -75,14 +127,19 @@ class Together(unittest.TestCase):
             if refused is not None:
                 self.assertIs(refusal_of(pointed, web)[0], refused)
                 self.assertIsNotNone(refusal_of(pointed_with, web, {})[0])
+                self.assertIs(refusal_of(pointed_over, web, 1)[0], Thin)
+                self.assertIn(refusal_of(all_ins, web), [(None, []), (TooMuch, None)])
                 continue
             self.assertIs(reads_ears(web, row), True)
-            for pointing in [pointed(web), by_ears(web, row), pointed_with(web, {})]:
+            for pointing in [pointed(web), by_ears(web, row), pointed_with(web, {}), pointed_over(web, 1)]:
                 self.assertIs(is_pointing(web, pointing), True)
                 self.assertTrue(all_reach_all(web, pointing))
                 self.assertIsNone(shut_lot(web, pointing))
                 self.assertEqual(read_pointing(web, pointing_text(web, pointing)), pointing)
                 self.assertEqual(pointed_with(web, dict(enumerate(pointing))), pointing)
+                again = pointing_of(web, ins_of(web, pointing))
+                self.assertTrue(all_reach_all(web, again))
+                self.assertEqual(turned(web, again, sum(rings_between(web, again, pointing), [])), pointing)
 
     def test_turned_in_fewest_no_lot_is_shut(self):
         for web in webs():
@@ -117,7 +174,12 @@ class AskedAgain(unittest.TestCase):
             for deed, *handed in [(clusters,), (bars,), (ears,), (pointed,), (pointed_with, fixed), (forced, fixed),
                                   (fewest, pointing), (ins_of, pointing), (entering, pointing, [a]),
                                   (shut_lot, pointing), (way, pointing, a, b), (reached, pointing, a),
-                                  (turned, pointing, list(range(0, web.many(), 3)))]:
+                                  (turned, pointing, list(range(0, web.many(), 3))), (all_ins,),
+                                  (pointing_of, ins_of(web, pointing)), (pointing_of, [1] * len(web.points())),
+                                  (times_over, pointing), (pointed_over, 0), (pointed_over, 1), (pointed_over, 2),
+                                  (ways_apart, pointing, a, b), (ways_apart, pointing, b, a),
+                                  (rings_between, pointing, [1 - lead for lead in pointing]),
+                                  (rings_between, pointing, pointing_of(web, ins_of(web, pointing)))]:
                 before = copy.deepcopy(handed)
                 one = refusal_of(deed, web, *handed)
                 self.assertEqual(refusal_of(deed, web, *handed), one)

@@ -76,6 +76,22 @@ def no_fixed(web):
     return things
 
 
+def no_ins(web):
+    """Things that are no ins for a web, met or not."""
+    many = len(web.points())
+    things = no_lists() + [[], (), [0] * (many - 1), [0] * (many + 1), (1,) * (many + 1), "0" * many, b"0" * many,
+                           {number: 0 for number in range(many)}, [[0] * many], Like([0] * many), range(many)]
+    for thing in no_numbers() + [-1, -10 ** 17]:
+        things += [put([1] * many, at, thing) for at in range(many)]
+        things.append((thing,) * many)
+    return things
+
+
+def no_times():
+    """Things that are no number from 0 to 9."""
+    return no_numbers() + [-1, -2, -10, 10, 11, 100, 10 ** 17, "9", (1, 2), [1], len]
+
+
 def nested(deep):
     """A list within a list, so many deep."""
     thing = ["a"]
@@ -137,6 +153,19 @@ LARGE = web_of("a b c d e f g h i; ab bc dc de ef gf gh ih ia ac ca be eh hb ai 
 TREE_AND_RING = web_of("d a b c e; ab bc ca dc de")
 
 
+def rings_web(seed, points, rings, more):
+    """A web of so many rings through all of its points, each in another order, and more ties."""
+    chance = random.Random(seed)
+    names, pairs = list("abcdefghi"[:points]), []
+    for _ in range(rings):
+        order = chance.sample(names, points)
+        pairs += [(one, other) if chance.random() < 0.5 else (other, one)
+                  for one, other in zip(order, order[1:] + order[:1])]
+    pairs += [tuple(chance.sample(names, 2)) for _ in range(more)]
+    chance.shuffle(pairs)
+    return Web(names, pairs)
+
+
 def sample_webs():
     """Webs of several forms: joined and not, with barring ties and without."""
     return [ONE, web_of("a b"), web_of("b a c"), web_of("a b; ba"), ROW, RING, TWO_TIES, HUNG, SHARED, PARTED, FULL,
@@ -178,6 +207,46 @@ def some_pointings(web):
 def arcs_of(web, pointing):
     """Each tie as the pair of points from which and to which it leads."""
     return [tie if lead == 0 else tie[::-1] for tie, lead in zip(web.ties(), pointing)]
+
+
+def own_ins(web, pointing):
+    """How many ties lead to each point, by the test's own count."""
+    goals = [goal for _, goal in arcs_of(web, pointing)]
+    return [goals.count(point) for point in web.points()]
+
+
+def into(web, pointing, lot):
+    """How many ties lead into a lot, by the test's own count."""
+    return sum(origin not in lot and goal in lot for origin, goal in arcs_of(web, pointing))
+
+
+def is_times_over(web, pointing, k):
+    """Whether k ties, or more, lead into each lot, by the test's own count."""
+    return all(into(web, pointing, lot) >= k for lot in some_lots(web))
+
+
+def ends_of_way(web, pointing, numbers):
+    """The first and the last point of a way of the pointing that isn't []; None where it is none."""
+    arcs = arcs_of(web, pointing)
+    points = [arcs[numbers[0]][0]]
+    for number in numbers:
+        if arcs[number][0] != points[-1]:
+            return None
+        points.append(arcs[number][1])
+    return (points[0], points[-1]) if len(set(points)) == len(points) else None
+
+
+def is_ring(web, pointing, numbers):
+    """Whether it is a ring of the pointing."""
+    arcs = [arcs_of(web, pointing)[number] for number in numbers]
+    origins = [origin for origin, _ in arcs]
+    return (len(arcs) > 1 and len(set(origins)) == len(origins)
+            and [goal for _, goal in arcs] == origins[1:] + origins[:1])
+
+
+def flipped(pointing, numbers):
+    """The pointing with some ties the other way about."""
+    return [1 - lead if at in numbers else lead for at, lead in enumerate(pointing)]
 
 
 def distances(arcs, start):
