@@ -30,9 +30,9 @@ def is_over_by(weighed, ins, k):
     return True
 
 
-def gaps(web, pointing, ins):
-    """The points to which fewer ties lead than the ins want, and those to which more do."""
-    rows = list(zip(web.points(), ins_of(web, pointing), ins))
-    lacking = [point for point, many, wanted in rows if many < wanted]
-    spare = [point for point, many, wanted in rows if many > wanted]
+def gaps(web, ins, wanted):
+    """The points of which the ins are fewer than are wanted, and those of which they are more."""
+    rows = list(zip(web.points(), ins, wanted))
+    lacking = [point for point, many, goal in rows if many < goal]
+    spare = [point for point, many, goal in rows if many > goal]
     return (lacking, spare)

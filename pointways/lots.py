@@ -17,13 +17,22 @@ def lot_of(web, points):
     return lot
 
 
+def all_parts(points):
+    """All parts of the points, each in order, and behind all parts of its own: first none of them, last all."""
+    parts = [[]]
+    for point in points:
+        parts = parts + [part + [point] for part in parts]
+    return parts
+
+
 def all_lots(web):
     """All lots of the web, each in order."""
-    parts = [[]]
-    for point in web.points():
-        parts = parts + [part + [point] for part in parts]
-    # The first part is none of the points, the last one is all of them.
-    return parts[1:-1]
+    return all_parts(web.points())[1:-1]
+
+
+def ties_inside(web, part):
+    """The numbers of the ties that have both ends in the part, rising."""
+    return [number for number, (first, second) in enumerate(web.ties()) if first in part and second in part]
 
 
 def crossing(web, lot):
@@ -35,6 +44,4 @@ def crossing(web, lot):
 
 def within(web, lot):
     """The numbers of the ties that have both ends in the lot, rising."""
-    inside = lot_of(web, lot)
-    ties = web.ties()
-    return [number for number, (first, second) in enumerate(ties) if first in inside and second in inside]
+    return ties_inside(web, lot_of(web, lot))

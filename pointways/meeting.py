@@ -2,7 +2,7 @@
 
 from pointways.clusters import ways_along
 from pointways.errors import NoIns, NoNumbers
-from pointways.ins import gaps, is_over_by, weighed_lots
+from pointways.ins import gaps, ins_of, is_over_by, weighed_lots
 from pointways.pointings import arrows, turned
 from pointways.webs import is_list, is_whole, sure_of_few_ties
 
@@ -46,7 +46,7 @@ def pointing_of(web, ins):
     """A pointing with these ins."""
     sure_of_ins(web, ins)
     pointing = [0] * web.many()
-    lacking, spare = gaps(web, pointing, ins)
+    lacking, spare = gaps(web, ins_of(web, pointing), ins)
     while len(lacking) > 0 or len(spare) > 0:
         steps = arrows(web, pointing)
         numbers = way_between(steps, lacking, spare)
@@ -54,7 +54,7 @@ def pointing_of(web, ins):
             refuse_ins(web, steps, lacking, spare)
         # Turned, a way has one tie more into its first point, one fewer into its last, as many into all others.
         pointing = turned(web, pointing, numbers)
-        lacking, spare = gaps(web, pointing, ins)
+        lacking, spare = gaps(web, ins_of(web, pointing), ins)
     return pointing
 
 

@@ -1,24 +1,30 @@
-"""The whole: promise 4 as far as the parts are there, and that the same is told when asked again (2)."""
+"""The whole: promise 4, and 2 and 3 for all parts: asked again the same, what is told is its asker's own."""
 
 import copy
+import itertools
 import random
 import unittest
 
 from pointways.apart import ways_apart
 from pointways.beforehand import forced, pointed_with
+from pointways.between import steps_between
 from pointways.clusters import bars, clusters
+from pointways.counts import all_pointed, how_many
 from pointways.ears import ears, reads_ears
-from pointways.errors import Thin, TooMuch
+from pointways.errors import PointError, Thin, TooMuch
+from pointways.farthest import far, farthest
 from pointways.ins import entering, ins_of
-from pointways.lots import within
+from pointways.lots import crossing, lot_of, within
 from pointways.meeting import all_ins, pointing_of
 from pointways.over import pointed_over, times_over
+from pointways.papers import least_farthest, reads_paper
 from pointways.pointed import by_ears, pointed
 from pointways.pointings import is_pointing, pointing_text, read_pointing, turned
 from pointways.reaching import reached, shut_lot, way
 from pointways.rings import rings_between
 from pointways.turnings import fewest
 from pointways.webs import Web, renamed, reordered
+from pointways.webtexts import web_text
 from things import all_reach_all, chance_webs, refusal_of, sample_webs, told
 
 
@@ -50,6 +56,14 @@ class Otherwise:
         """The same ties fixed, of this web."""
         return {at: fixed[number] ^ self.about[at] for at, number in enumerate(self.order) if number in fixed}
 
+    def paper(self, paper):
+        """The same paper, of this web."""
+        if paper[0] == "far":
+            return ("far", self.names[paper[1]], self.names[paper[2]])
+        at = self.order.index(paper[1])
+        papers = [self.paper(one) for one in paper[2:]]
+        return ("fork", at, *(papers[::-1] if self.about[at] else papers))
+
 
 class CalledOtherwise(unittest.TestCase):
     """Points called otherwise, and ties in another order, leave what is counted and refused as it is."""
@@ -75,8 +89,10 @@ class CalledOtherwise(unittest.TestCase):
     def test_of_the_web_alone(self):
         for web, same, _ in self.several():
             self.alike(lambda told: [len(one) for one in told], clusters, [web], [same.web])
-            for deed in [bars, ears, pointed, all_ins]:
+            for deed in [bars, ears, pointed, all_ins, all_pointed]:
                 self.alike(len, deed, [web], [same.web])
+            self.alike(int, how_many, [web], [same.web])
+            self.alike(lambda told: told[0], least_farthest, [web], [same.web])
             for k in [0, 1, 2, 3, 9]:
                 self.alike(len, pointed_over, [web, k], [same.web, k])
 
@@ -88,6 +104,7 @@ class CalledOtherwise(unittest.TestCase):
             self.alike(lambda told: [len(row) for row in told], fewest, *both)
             self.alike(lambda told: told is None, shut_lot, *both)
             self.alike(lambda told: told and told[0], times_over, *both)
+            self.alike(lambda told: told and told[0], farthest, *both)
 
     def test_of_what_is_fixed(self):
         for web, same, chance in self.several():
@@ -102,6 +119,7 @@ class CalledOtherwise(unittest.TestCase):
             a, b = chance.choice(web.points()), chance.choice(web.points())
             both = [web, pointing, a, b], [same.web, same.pointing(pointing), same.names[a], same.names[b]]
             self.alike(lambda told: told and len(told), way, *both)
+            self.alike(lambda told: told, far, *both)
             self.alike(lambda told: len(told[0]), ways_apart, *both)
 
     def test_of_ins(self):
@@ -114,8 +132,30 @@ class CalledOtherwise(unittest.TestCase):
         for web, same, chance in self.several():
             one, other = pointing_of(web, ins_of(web, self.drawn(web, chance))), self.drawn(web, chance)
             for two in [other, pointing_of(web, ins_of(web, one)), [1 - lead for lead in one]]:
-                self.alike(lambda told: len(sum(told, [])), rings_between, [web, one, two],
-                           [same.web, same.pointing(one), same.pointing(two)])
+                both = [web, one, two], [same.web, same.pointing(one), same.pointing(two)]
+                self.alike(lambda told: len(sum(told, [])), rings_between, *both)
+                self.ways_alike(*both)
+
+    def ways_alike(self, web_and_handed, other_and_handed):
+        """As many ways lead from the one pointing to the other, or both are refused alike."""
+        for k in [1, 2]:
+            self.alike(lambda told: [kind for kind, _ in told].count("way"), steps_between, web_and_handed + [k],
+                       other_and_handed + [k])
+
+    def test_of_two_pointings_by_which_all_reach_all(self):
+        for web, same, _ in self.several():
+            if refusal_of(pointed, web)[0] is None:
+                one = pointed(web)
+                for two in [pointed_over(web, 1), [1 - lead for lead in one], pointed_with(web, {})]:
+                    self.ways_alike([web, one, two], [same.web, same.pointing(one), same.pointing(two)])
+
+    def test_of_papers(self):
+        for web, same, _ in self.several():
+            refused, answer = refusal_of(least_farthest, web)
+            if refused is None and answer[2] is not None:
+                number, _, paper = answer
+                self.assertIs(reads_paper(same.web, number, same.paper(paper)), True)
+                self.assertIs(reads_paper(same.web, number + 1, same.paper(paper)), False)
 
 
 class Together(unittest.TestCase):
@@ -128,10 +168,15 @@ class Together(unittest.TestCase):
                 self.assertIs(refusal_of(pointed, web)[0], refused)
                 self.assertIsNotNone(refusal_of(pointed_with, web, {})[0])
                 self.assertIs(refusal_of(pointed_over, web, 1)[0], Thin)
-                self.assertIn(refusal_of(all_ins, web), [(None, []), (TooMuch, None)])
+                for deed in [all_ins, all_pointed]:
+                    self.assertEqual(refusal_of(deed, web), (TooMuch, None) if web.many() > 12 else (None, []))
+                self.assertIs(refusal_of(least_farthest, web)[0], TooMuch if web.many() > 10 else refused)
+                self.assertIs(refusal_of(fewest, web, [0] * web.many())[0], TooMuch if web.many() > 12 else refused)
+                self.assertEqual(how_many(web), 0)
                 continue
             self.assertIs(reads_ears(web, row), True)
-            for pointing in [pointed(web), by_ears(web, row), pointed_with(web, {}), pointed_over(web, 1)]:
+            self.assertGreater(how_many(web), 0)
+            for pointing in self.pointings(web, row):
                 self.assertIs(is_pointing(web, pointing), True)
                 self.assertTrue(all_reach_all(web, pointing))
                 self.assertIsNone(shut_lot(web, pointing))
@@ -140,6 +185,49 @@ class Together(unittest.TestCase):
                 again = pointing_of(web, ins_of(web, pointing))
                 self.assertTrue(all_reach_all(web, again))
                 self.assertEqual(turned(web, again, sum(rings_between(web, again, pointing), [])), pointing)
+
+    def pointings(self, web, row):
+        """What all functions that point a web tell of it."""
+        some = [pointed(web), by_ears(web, row), pointed_with(web, {}), pointed_over(web, 1)]
+        if web.many() <= 12:
+            some.append(turned(web, [0] * web.many(), fewest(web, [0] * web.many())[0]))
+            some += [pointing_of(web, ins) for ins in all_ins(web)[:5]] + all_pointed(web)[:5]
+        if web.many() <= 10:
+            some.append(least_farthest(web)[1])
+        return some
+
+    def test_led_to_one_another(self):
+        for web in webs():
+            refused, row = refusal_of(ears, web)
+            some = [] if refused is not None else self.pointings(web, row)[:6]
+            for one, other in itertools.product(some, repeat=2):
+                here = one
+                for _, numbers in steps_between(web, one, other, 1):
+                    here = turned(web, here, numbers)
+                    self.assertIsNone(shut_lot(web, here))
+                    self.assertGreater(times_over(web, here)[0], 0)
+                self.assertEqual(here, other)
+
+    def test_as_many_are_counted_as_are_listed(self):
+        for web in webs():
+            if web.many() <= 12:
+                rows = all_pointed(web)
+                self.assertEqual(how_many(web), len(rows))
+                self.assertEqual(all_ins(web), sorted(map(list, {tuple(ins_of(web, row)) for row in rows})))
+                if 0 < len(rows) and web.many() <= 10:
+                    self.assertEqual(least_farthest(web)[0], min(farthest(web, row)[0] for row in rows))
+
+    def test_a_lot_is_entered_as_often_as_ways_are_apart(self):
+        for web in webs():
+            pointing = [at * 5 // 3 % 2 for at in range(web.many())]
+            pairs = list(itertools.permutations(web.points(), 2))
+            told_over = times_over(web, pointing)
+            if pairs:
+                self.assertEqual(min(len(ways_apart(web, pointing, a, b)[0]) for a, b in pairs), told_over[0])
+            for a, b in pairs[::5]:
+                ways, lot = ways_apart(web, pointing, a, b)
+                self.assertEqual(entering(web, pointing, lot), len(ways))
+                self.assertEqual(far(web, pointing, a, b) is None, ways == [])
 
     def test_turned_in_fewest_no_lot_is_shut(self):
         for web in webs():
@@ -165,26 +253,97 @@ class Together(unittest.TestCase):
 
 class AskedAgain(unittest.TestCase):
 
+    def deeds(self, web):
+        """All functions that are handed a web, each with what else it is handed."""
+        pointing = [at // 2 % 2 for at in range(web.many())]
+        other, good = [1 - lead for lead in pointing], refusal_of(pointed, web)[1] or pointing
+        fixed = {number: lead for number, lead in enumerate(pointing) if number % 4 == 1}
+        numbers = list(range(0, web.many(), 3))
+        a, b = web.points()[0], web.points()[-1]
+        ins, row = ins_of(web, pointing), refusal_of(ears, web)[1] or []
+        paper = ["fork", 0, ["far", a, b], ["far", b, a]]
+        return [(clusters,), (bars,), (ears,), (pointed,), (all_ins,), (how_many,), (all_pointed,), (least_farthest,),
+                (web_text,), (renamed, {point: point * 2 for point in web.points()}),
+                (reordered, list(range(web.many()))[::-1]), (lot_of, [b]), (crossing, [a]), (within, [a]),
+                (reads_ears, row), (by_ears, row), (is_pointing, pointing), (turned, pointing, numbers),
+                (pointing_text, pointing), (read_pointing, pointing_text(web, pointing)), (way, pointing, a, b),
+                (reached, pointing, a), (shut_lot, pointing), (pointed_with, fixed), (forced, fixed),
+                (pointed_with, {}), (forced, {}), (fewest, pointing), (ins_of, pointing), (entering, pointing, [a]),
+                (pointing_of, ins), (pointing_of, [1] * len(ins)), (times_over, pointing), (times_over, good),
+                (pointed_over, 0), (pointed_over, 1), (pointed_over, 2), (ways_apart, pointing, a, b),
+                (ways_apart, good, b, a), (rings_between, pointing, other),
+                (rings_between, pointing, pointing_of(web, ins)), (steps_between, pointing, other, 1),
+                (steps_between, good, [1 - lead for lead in good], 1), (far, pointing, a, b), (farthest, pointing),
+                (farthest, good), (reads_paper, 1, paper), (reads_paper, 2, paper)]
+
+    def plain(self, answer):
+        """What is told, a web by all that it tells of itself, a refusal by its class and values."""
+        return told(answer) if isinstance(answer, Web) else answer
+
+    def asked(self, deed, web, handed):
+        """What the deed tells, or its refusal's class and values."""
+        try:
+            return self.plain(deed(web, *handed))
+        except PointError as refusal:
+            return type(refusal), dict(vars(refusal))
+
     def test_the_same_is_told(self):
         for web in webs():
             was = told(web)
-            pointing = [at // 2 % 2 for at in range(web.many())]
-            fixed = {number: lead for number, lead in enumerate(pointing) if number % 4 == 1}
-            a, b = web.points()[0], web.points()[-1]
-            for deed, *handed in [(clusters,), (bars,), (ears,), (pointed,), (pointed_with, fixed), (forced, fixed),
-                                  (fewest, pointing), (ins_of, pointing), (entering, pointing, [a]),
-                                  (shut_lot, pointing), (way, pointing, a, b), (reached, pointing, a),
-                                  (turned, pointing, list(range(0, web.many(), 3))), (all_ins,),
-                                  (pointing_of, ins_of(web, pointing)), (pointing_of, [1] * len(web.points())),
-                                  (times_over, pointing), (pointed_over, 0), (pointed_over, 1), (pointed_over, 2),
-                                  (ways_apart, pointing, a, b), (ways_apart, pointing, b, a),
-                                  (rings_between, pointing, [1 - lead for lead in pointing]),
-                                  (rings_between, pointing, pointing_of(web, ins_of(web, pointing)))]:
+            for deed, *handed in self.deeds(web):
                 before = copy.deepcopy(handed)
-                one = refusal_of(deed, web, *handed)
-                self.assertEqual(refusal_of(deed, web, *handed), one)
+                one = self.asked(deed, web, handed)
+                self.assertEqual(handed, before)
+                self.assertEqual(self.asked(deed, web, handed), one)
                 self.assertEqual(handed, before)
             self.assertEqual(told(web), was)
+
+    def test_what_is_told_is_its_asker_s_own(self):
+        for web in webs()[::3]:
+            was = told(web)
+            for deed, *handed in self.deeds(web):
+                before, answer = copy.deepcopy(handed), self.asked(deed, web, handed)
+                kept = copy.deepcopy(answer)
+                self.spoil(answer)
+                self.assertEqual(handed, before)
+                self.assertEqual(self.asked(deed, web, handed), kept)
+            self.assertEqual(told(web), was)
+
+    def test_what_is_handed_in_may_be_changed(self):
+        for web in webs()[::3]:
+            for deed, *handed in self.deeds(web):
+                answer = self.asked(deed, web, handed)
+                kept = copy.deepcopy(answer)
+                self.spoil(handed)
+                self.assertEqual(answer, kept)
+
+    def spoil(self, thing):
+        """Changes a thing through and through, as far as it can be changed."""
+        if isinstance(thing, dict):
+            self.spoil(list(thing.values()))
+            thing.clear()
+        if isinstance(thing, (list, tuple)):
+            for one in thing:
+                self.spoil(one)
+        if isinstance(thing, list):
+            thing[:] = ["spoilt"]
+
+    def test_no_list_is_told_twice(self):
+        for web in webs()[::3]:
+            for deed, *handed in self.deeds(web):
+                lists = self.lists_in(self.asked(deed, web, handed))
+                self.assertEqual(len(lists), len({id(one) for one in lists}))
+                own = {id(one) for one in self.lists_in(handed)}
+                self.assertEqual([one for one in lists if id(one) in own], [])
+
+    def lists_in(self, thing):
+        """All lists and dicts within a thing, itself among them."""
+        inner = list(thing.values()) if isinstance(thing, dict) else thing
+        found = [thing] if isinstance(thing, (list, dict)) else []
+        if isinstance(inner, (list, tuple)):
+            for one in inner:
+                found += self.lists_in(one)
+        return found
 
 
 if __name__ == "__main__":
